@@ -1,0 +1,24 @@
+"""The bounds, how a person may fare, and the refusals, as the document tells them."""
+
+WARMEST = 4
+RAFT_PLACE = 5
+CLOTHINGS = 4
+TOLD_MOST = 10000
+TAKES_MOST = 1000
+PERSONS_MOST = 9
+PASSING_MOST = 1440
+LAST_MINUTE = 100000
+BEGIN_MOST = 100000
+CHANGES_KEPT = 20
+
+WAITS = 0
+TAKEN_UP = 1
+LOST = 2
+
+NOT_THERE = -2
+NOBODY = -6
+NOT_WAITING = -16
+ALREADY_SO = -17
+NOT_ALLOWED = -22
+NO_ROOM = -28
+TOO_LATE = -75

@@ -1,18 +1,19 @@
-"""The calls that change nothing: point 4 of the document, and hh_spare of point 5.
+"""The calls of points 4 and 5 of the document, which tell who can be taken up and change nothing.
 
 Each answers a list: the number, then what the document calls out; a refusal is its number alone.
 """
 
-from hourstheyhave.limits import BEGIN_MOST, NOBODY, NOT_ALLOWED, NOT_THERE, NOT_WAITING, PERSONS_MOST
-from hourstheyhave.order import group_of, longest_wait, the_most, the_plan
+from hourstheyhave.limits import BEGIN_MOST, NOBODY, NOT_ALLOWED, NOT_WAITING, PERSONS_MOST
+from hourstheyhave.order import group_of, is_among_the_most, longest_wait, size_without, the_most, the_plan
+from hourstheyhave.refusing import refusal_of_clothes, refusal_unless_waiting
+from hourstheyhave.sea import refit
 
 
 def hh_left(sea, p):
-    if p >= len(sea.persons):
-        return [NOT_THERE]
+    refusal = refusal_unless_waiting(sea, p)
+    if refusal is not None:
+        return [refusal]
     person = sea.persons[p]
-    if not person.waits():
-        return [NOT_WAITING]
     return [person.left, sea.minute + person.left, max(0, person.left - person.takes)]
 
 
@@ -44,3 +45,35 @@ def hh_spare(sea):
     if the_most(sea, 0).size == 0:
         return [NOBODY]
     return [longest_wait(sea)]
+
+
+def hh_first(sea):
+    plan = the_plan(sea, 0)
+    if len(plan) == 0:
+        return [NOBODY]
+    return [plan[0], sea.minute + sea.persons[plan[0]].takes]
+
+
+def hh_without(sea, p):
+    refusal = refusal_unless_waiting(sea, p)
+    if refusal is not None:
+        return [refusal]
+    return [size_without(sea, p)]
+
+
+def hh_among(sea, p):
+    refusal = refusal_unless_waiting(sea, p)
+    if refusal is not None:
+        return [refusal]
+    return [1 if is_among_the_most(sea, p) else 0]
+
+
+def hh_saves(sea, p, c):
+    refusal = refusal_of_clothes(sea, p, c)
+    if refusal is not None:
+        return [refusal]
+    # The sea that's asked may stand in the log, where none is altered.
+    supposed = sea.duplicate()
+    person = supposed.persons[p]
+    refit(supposed, person, c, person.raft)
+    return [the_most(supposed, 0).size, person.left]

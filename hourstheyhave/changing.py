@@ -3,9 +3,10 @@
 Each answers a list: the number, then what the document calls out; a refusal is its number alone.
 """
 
-from hourstheyhave.limits import ALREADY_SO, CLOTHINGS, LAST_MINUTE, NOBODY, NOT_ALLOWED, NOT_THERE, NOT_WAITING
-from hourstheyhave.limits import NO_ROOM, PASSING_MOST, PERSONS_MOST, TAKES_MOST, TOLD_MOST, TOO_LATE, WAITS, WARMEST
+from hourstheyhave.limits import ALREADY_SO, CLOTHINGS, LAST_MINUTE, NOBODY, NOT_ALLOWED, NO_ROOM, PASSING_MOST
+from hourstheyhave.limits import PERSONS_MOST, TAKES_MOST, TOLD_MOST, TOO_LATE, WAITS, WARMEST
 from hourstheyhave.order import the_plan
+from hourstheyhave.refusing import refusal_of_clothes, refusal_of_raft, refusal_unless_waiting
 from hourstheyhave.sea import Person, Sea, pass_minutes, refit, take_up, turn_water
 
 
@@ -42,30 +43,20 @@ def hh_water(log, w):
 
 
 def hh_raft(log, p, inside):
-    if p >= len(log.now.persons):
-        return [NOT_THERE]
-    if inside > 1:
-        return [NOT_ALLOWED]
-    person = log.now.persons[p]
-    return change_person(log, p, person.clothes, inside)
+    refusal = refusal_of_raft(log.now, p, inside)
+    if refusal is not None:
+        return [refusal]
+    return change_person(log, p, log.now.persons[p].clothes, inside)
 
 
 def hh_clothe(log, p, c):
-    if p >= len(log.now.persons):
-        return [NOT_THERE]
-    if c >= CLOTHINGS:
-        return [NOT_ALLOWED]
-    person = log.now.persons[p]
-    return change_person(log, p, c, person.raft)
+    refusal = refusal_of_clothes(log.now, p, c)
+    if refusal is not None:
+        return [refusal]
+    return change_person(log, p, c, log.now.persons[p].raft)
 
 
 def change_person(log, p, clothes, raft):
-    """What hh_raft and hh_clothe have in common: only one of clothes and raft can differ."""
-    person = log.now.persons[p]
-    if not person.waits():
-        return [NOT_WAITING]
-    if person.clothes == clothes and person.raft == raft:
-        return [ALREADY_SO]
     sea = log.now.duplicate()
     refit(sea, sea.persons[p], clothes, raft)
     log.change_to(sea)
@@ -84,12 +75,10 @@ def hh_minutes(log, n):
 
 
 def hh_take(log, p):
-    if p >= len(log.now.persons):
-        return [NOT_THERE]
-    person = log.now.persons[p]
-    if not person.waits():
-        return [NOT_WAITING]
-    if log.now.minute + person.takes > LAST_MINUTE:
+    refusal = refusal_unless_waiting(log.now, p)
+    if refusal is not None:
+        return [refusal]
+    if log.now.minute + log.now.persons[p].takes > LAST_MINUTE:
         return [TOO_LATE]
     sea = log.now.duplicate()
     others_lost = take_up(sea, p)
@@ -108,4 +97,4 @@ def hh_all(log):
     for p in plan:
         take_up(sea, p)
     log.change_to(sea)
-    return [len(plan), sea.minute, sea.how_many_wait()]
+    return [len(plan), sea.minute, len(sea.numbers_of(WAITS))]

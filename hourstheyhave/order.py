@@ -1,6 +1,6 @@
 """Who can be taken up in time, and in which order."""
 
-from hourstheyhave.limits import BEGIN_MOST
+from hourstheyhave.limits import BEGIN_MOST, WAITS
 
 
 class Group:
@@ -16,6 +16,9 @@ class Group:
         self.minutes = minutes
         self.spare = spare
 
+    def has(self, number):
+        return (self.bits >> number) & 1 == 1
+
     def joined_by(self, number, person):
         minutes = self.minutes + person.takes
         spare = min(self.spare, person.left - minutes)
@@ -28,8 +31,7 @@ def empty_group():
 
 def numbers_by_left(sea):
     """The numbers of those who wait, who has fewer left first."""
-    waiting = [number for number, person in enumerate(sea.persons) if person.waits()]
-    return sorted(waiting, key=lambda number: (sea.persons[number].left, number))
+    return sorted(sea.numbers_of(WAITS), key=lambda number: (sea.persons[number].left, number))
 
 
 def numbers_within(sea, bits):
@@ -79,6 +81,21 @@ def the_plan(sea, t):
 
 def longest_wait(sea):
     """The greatest t, beginning in which the most are as many as beginning now."""
+    return max([group.spare for group in groups_of_the_most(sea)])
+
+
+def groups_of_the_most(sea):
+    """All groups of as many as the most that can be taken up, beginning now."""
     groups = groups_in_time(sea, 0)
     size = max([group.size for group in groups])
-    return max([group.spare for group in groups if group.size == size])
+    return [group for group in groups if group.size == size]
+
+
+def is_among_the_most(sea, number):
+    """Whether one of the groups of as many as the most has this person in it."""
+    return any([group.has(number) for group in groups_of_the_most(sea)])
+
+
+def size_without(sea, number):
+    """How many the most were, beginning now, if this person didn't wait."""
+    return max([group.size for group in groups_in_time(sea, 0) if not group.has(number)])

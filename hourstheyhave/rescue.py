@@ -1,13 +1,17 @@
 """A line of calls on one new object, and what they answer."""
 
-from hourstheyhave.asking import hh_can, hh_left, hh_most, hh_plan, hh_spare
+from hourstheyhave.asking import hh_among, hh_can, hh_first, hh_left, hh_most, hh_plan, hh_saves, hh_spare, hh_without
 from hourstheyhave.changing import hh_all, hh_clothe, hh_minutes, hh_person, hh_raft, hh_start, hh_take, hh_water
 from hourstheyhave.log import Log
+from hourstheyhave.looking import hh_look, hh_next, hh_row, hh_sums, hh_who
+from hourstheyhave.undoing import hh_again, hh_back, hh_state
 
 START = 0
 LAST_CHANGE = 7
+LAST_ASKING = 16
+LAST_LOOKING = 21
 # How many numbers stand behind each call's own number; the start's table comes on top of its two.
-WIDTHS = (2, 3, 1, 2, 2, 1, 1, 0, 1, 1, 1, 2, 0)
+WIDTHS = (2, 3, 1, 2, 2, 1, 1, 0, 1, 1, 1, 2, 0, 0, 1, 1, 2, 0, 1, 0, 1, 0, 0, 0, 0)
 
 
 def answers(calls):
@@ -37,7 +41,11 @@ def answer_of(log, number, given):
         return hh_start(log, given[0], given[2:])
     if number <= LAST_CHANGE:
         return answer_of_change(log, number, given)
-    return answer_of_question(log.now, number, given)
+    if number <= LAST_ASKING:
+        return answer_of_asking(log.now, number, given)
+    if number <= LAST_LOOKING:
+        return answer_of_looking(log.now, number, given)
+    return answer_of_undoing(log, number)
 
 
 def answer_of_change(log, number, given):
@@ -56,7 +64,7 @@ def answer_of_change(log, number, given):
     return hh_all(log)
 
 
-def answer_of_question(sea, number, given):
+def answer_of_asking(sea, number, given):
     if number == 8:
         return hh_left(sea, given[0])
     if number == 9:
@@ -65,4 +73,32 @@ def answer_of_question(sea, number, given):
         return hh_plan(sea, given[0])
     if number == 11:
         return hh_can(sea, given[0], given[1])
-    return hh_spare(sea)
+    if number == 12:
+        return hh_spare(sea)
+    if number == 13:
+        return hh_first(sea)
+    if number == 14:
+        return hh_without(sea, given[0])
+    if number == 15:
+        return hh_among(sea, given[0])
+    return hh_saves(sea, given[0], given[1])
+
+
+def answer_of_looking(sea, number, given):
+    if number == 17:
+        return hh_next(sea)
+    if number == 18:
+        return hh_look(sea, given[0])
+    if number == 19:
+        return hh_who(sea)
+    if number == 20:
+        return hh_row(sea, given[0])
+    return hh_sums(sea)
+
+
+def answer_of_undoing(log, number):
+    if number == 22:
+        return hh_back(log)
+    if number == 23:
+        return hh_again(log)
+    return hh_state(log)

@@ -33,6 +33,9 @@ class Sea:
         persons = [person.duplicate() for person in self.persons]
         return Sea(self.water, self.table, self.minute, persons)
 
+    def told_row(self, place):
+        return self.table[place * CLOTHINGS:(place + 1) * CLOTHINGS]
+
     def told_at(self, place, clothes):
         return self.table[place * CLOTHINGS + clothes]
 
@@ -40,8 +43,9 @@ class Sea:
         """How many minutes the table tells for these clothes, in a raft (1) or in the water (0)."""
         return self.told_at(RAFT_PLACE if raft == 1 else self.water, clothes)
 
-    def how_many_wait(self):
-        return len([person for person in self.persons if person.waits()])
+    def numbers_of(self, fate):
+        """The numbers of those who fare so."""
+        return [number for number, person in enumerate(self.persons) if person.fate == fate]
 
 
 def rescaled(left, told_now, told_before):

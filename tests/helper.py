@@ -4,7 +4,8 @@ from hourstheyhave.rescue import answers
 
 NUMBERS = {
     "start": 0, "person": 1, "water": 2, "raft": 3, "clothe": 4, "minutes": 5, "take": 6,
-    "all": 7, "left": 8, "most": 9, "plan": 10, "can": 11, "spare": 12,
+    "all": 7, "left": 8, "most": 9, "plan": 10, "can": 11, "spare": 12, "first": 13, "without": 14, "among": 15,
+    "saves": 16, "next": 17, "look": 18, "who": 19, "row": 20, "sums": 21, "back": 22, "again": 23, "state": 24,
 }
 GREATEST = 4294967295
 # Every cell differs: (place + 1) * 100 + clothes * 10.
@@ -38,6 +39,8 @@ def split(told):
 
 
 def run(*calls):
+    if len(calls) > 1000:
+        raise AssertionError("a line holds at most 1000 calls, not %d" % len(calls))
     each = split(answers(line(calls)))
     if len(each) != len(calls):
         raise AssertionError("%d calls, %d answers" % (len(calls), len(each)))
@@ -60,13 +63,34 @@ def crew(pairs):
     return [("start", 0, table)] + [("person",) + cells[left] + (takes,) for left, takes in pairs]
 
 
-def probe(persons):
-    """Calls whose answers show all of the state that can be seen: questions first, then changes."""
-    calls = [("left", p) for p in range(persons + 1)]
+def look_round(persons):
+    """Calls whose answers show all that a change can change, and how many can be taken back and done again."""
+    return [("state",)] + [("look", p) for p in range(persons + 1)]
+
+
+def questions(persons):
+    """Every call that changes nothing, of each person and of one who isn't there."""
+    calls = look_round(persons) + [("who",), ("sums",), ("next",), ("first",), ("spare",)]
+    for p in range(persons + 1):
+        calls += [("left", p), ("without", p), ("among", p), ("saves", p, 0), ("saves", p, 3), ("saves", p, 4)]
     for t in (0, 1, 5, 50, 90):
         calls += [("most", t), ("plan", t)]
     calls += [("can", 1 << p, 0) for p in range(persons)]
-    calls += [("spare",)]
+    return calls + [("row", place) for place in range(7)]
+
+
+def there_and_back(persons):
+    """Every change that can be taken back taken back, then every one done again, with a look round at each."""
+    calls = []
+    for name in ("back", "again"):
+        for unused in range(21):
+            calls += [(name,)] + look_round(persons)
+    return calls
+
+
+def probe(persons):
+    """Calls whose answers show all of the state that can be seen: questions first, then changes."""
+    calls = questions(persons) + there_and_back(persons)
     calls += [("water", w) for w in range(5)]
     calls += [call for p in range(persons) for call in (("raft", p, 0), ("raft", p, 1))]
     calls += [("clothe", p, c) for p in range(persons) for c in range(4)]

@@ -1,10 +1,10 @@
-"""What holds, as far as it speaks of the calls up to hh_spare: over many crews made by a fixed seed."""
+"""What holds: over many crews, and many lines of changes, made by fixed seeds."""
 
 import itertools
 import random
 import unittest
 
-from helper import START, crew, last, run
+from helper import START, TABLE, crew, last, look_round, questions, run
 
 
 def crews(count, most_persons, seed):
@@ -27,6 +27,16 @@ def in_time(pairs, order, t):
 
 def numbers(bits):
     return [number for number in range(9) if bits >> number & 1]
+
+
+def change(chance):
+    """A change, or one that's refused: of each of the calls of points 2 and 3."""
+    p = chance.randint(0, 8)
+    person = ("person", chance.randint(0, 3), chance.randint(0, 1), chance.randint(1, 200))
+    return chance.choice((
+        person, person, person, ("water", chance.randint(0, 4)), ("raft", p, chance.randint(0, 1)),
+        ("clothe", p, chance.randint(0, 3)), ("minutes", chance.randint(1, 60)), ("take", p), ("all",),
+    ))
 
 
 class Holds(unittest.TestCase):
@@ -111,10 +121,69 @@ class Holds(unittest.TestCase):
             # Lost and taken up both answer -16: those of the plan are not counted as lost one by one.
             lost = len(pairs) - taken[2] - taken[0]
             self.assertEqual(sum(answer[2] for answer in by_hand), lost, pairs)
+            most, unused, who, sums = run(*crew(pairs), ("most", 0), ("all",), ("who",), ("sums",))[-4:]
+            self.assertEqual(who[2], most[1], pairs)
+            self.assertEqual(sums, [len(pairs), taken[2], taken[0], lost], pairs)
+
+    def test_the_first_of_the_plan(self):
+        for pairs in crews(150, 9, 10):
+            plan, first = run(*crew(pairs), ("minutes", 2), ("plan", 0), ("first",))[-2:]
+            if plan[0] == 0:
+                self.assertEqual(first, [-6])
+                continue
+            self.assertEqual(first, [plan[1] - 1, 2 + pairs[plan[1] - 1][1]], pairs)
+            self.assertEqual(last(*crew(pairs), ("minutes", 2), ("take", first[0]))[:2], [1, first[1]], pairs)
+
+    def test_who_has_fewest_left(self):
+        for pairs in crews(150, 9, 11):
+            told = run(*crew(pairs), ("minutes", 4), ("next",), *[("look", p) for p in range(len(pairs))])
+            waiting = [(look[3], p) for p, look in enumerate(told[-len(pairs):]) if look[0] == 0]
+            expected = [min(waiting)[1], min(waiting)[0]] if waiting else [-6]
+            self.assertEqual(told[len(pairs) + 2], expected, pairs)
+
+    def test_on_whom_it_hangs(self):
+        seen = {}
+        for pairs in crews(200, 9, 12):
+            persons = range(len(pairs))
+            asked = [("without", p) for p in persons] + [("among", p) for p in persons]
+            told = run(*crew(pairs), ("most", 0), *asked)[1 + len(pairs):]
+            size = told[0][0]
+            sets = [who for who in range(1 << len(pairs)) if len(numbers(who)) == size and in_time(
+                pairs, sorted(numbers(who), key=lambda p: pairs[p][0]), 0)]
+            for p in persons:
+                without, among = told[1 + p][0], told[1 + len(pairs) + p][0]
+                self.assertIn(without, (size, size - 1), (pairs, p))
+                self.assertEqual(without == size - 1, all(who >> p & 1 for who in sets), (pairs, p))
+                self.assertEqual(among, int(any(who >> p & 1 for who in sets)), (pairs, p))
+                seen[size - without, among] = True
+        self.assertEqual(sorted(seen), [(0, 0), (0, 1), (1, 1)])
+
+    def test_without_is_as_if_they_were_not_there(self):
+        for pairs in crews(60, 9, 13):
+            for p in range(len(pairs)):
+                others = pairs[:p] + pairs[p + 1:]
+                self.assertEqual(last(*crew(pairs), ("without", p))[0], last(*crew(others), ("most", 0))[0], (pairs, p))
+
+    def test_saves_is_as_if_they_were_clothed(self):
+        chance = random.Random(14)
+        tried = 0
+        for unused in range(60):
+            calls = [("start", 2, TABLE)] + [change(chance) for unused in range(25)]
+            asked = [(p, c) for p in range(9) for c in range(4)]
+            told = run(*calls, *[("saves", p, c) for p, c in asked])[len(calls):]
+            for (p, c), saves in zip(asked, told):
+                clothed, most = run(*calls, ("clothe", p, c), ("most", 0))[-2:]
+                if clothed[0] < 0:
+                    self.assertEqual(saves, clothed, (calls, p, c))
+                    continue
+                tried += 1
+                self.assertEqual(saves, [most[0], clothed[0]], (calls, p, c))
+        self.assertGreater(tried, 100)
 
     def test_minutes_in_pieces(self):
         for pairs in crews(60, 9, 9):
-            asked = [("left", number) for number in range(len(pairs))] + [("most", 0), ("plan", 1), ("minutes", 1)]
+            # All that's asked, but for hh_state: pieces are more changes.
+            asked = [call for call in questions(len(pairs)) if call[0] != "state"] + [("minutes", 1)]
             at_once = run(*crew(pairs), ("minutes", 20), *asked)[1 + len(pairs):]
             for pieces in ([1] * 20, [7, 13], [19, 1]):
                 told = run(*crew(pairs), *[("minutes", piece) for piece in pieces], *asked)[1 + len(pairs):]
@@ -127,6 +196,43 @@ class Holds(unittest.TestCase):
                    ("raft", 0, 1), ("raft", 1, 1), ("clothe", 0, 1), ("clothe", 1, 1), ("take", 0), ("take", 1),
                    ("left", 0), ("left", 1), ("most", 0), ("all",))
         self.assertEqual(told[5:], [[2]] + [[-16]] * 8 + [[0, 0], [-6]])
+
+    def test_whoever_is_lost_or_up_stays_so_whatever_changes(self):
+        chance = random.Random(15)
+        for unused in range(40):
+            calls = [START]
+            for unused in range(60):
+                calls += [change(chance), ("who",)] + [("look", p) for p in range(9)]
+            told = run(*calls)
+            whos = told[2::11]
+            for before, behind in zip(whos, whos[1:]):
+                self.assertEqual(before[2] & ~behind[2], 0)
+                self.assertEqual(before[3] & ~behind[3], 0)
+            for p in range(9):
+                looks = told[3 + p::11]
+                for before, behind in zip(looks, looks[1:]):
+                    if before[0] in (1, 2):
+                        self.assertEqual(behind, before)
+
+    def test_all_can_be_taken_back_and_done_again(self):
+        chance = random.Random(16)
+        looks = look_round(9) + [("who",), ("sums",), ("row", 2), ("plan", 0)]
+        width = 1 + len(looks)
+        for unused in range(40):
+            changes = [change(chance) for unused in range(30)]
+            # Without the refusals the line has as many changes as calls.
+            changes = [call for call, told in zip(changes, run(START, *changes)[1:]) if told[0] >= 0][:20]
+            count = len(changes)
+            told = run(*[call for step in [START] + changes for call in [step] + looks])
+            shown = [told[at + 1:at + width] for at in range(0, len(told), width)]
+            walk = ["back"] * count + ["again"] * count
+            told = run(START, *changes, *[call for name in walk for call in [(name,)] + looks])[1 + count:]
+            walked = [told[at:at + width] for at in range(0, len(told), width)]
+            places = list(range(count - 1, -1, -1)) + list(range(1, count + 1))
+            for name, place, step in zip(walk, places, walked):
+                self.assertEqual(step[0], [place if name == "back" else count - place])
+                self.assertEqual(step[1], shown[place][0][:2] + [place, count - place])
+                self.assertEqual(step[2:], shown[place][1:])
 
 
 if __name__ == "__main__":

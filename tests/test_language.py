@@ -102,6 +102,9 @@ class Language(unittest.TestCase):
             self.assertLessEqual(len(node.generators[0].ifs), 1, (name, node.lineno))
         for name, node in nodes((ast.BinOp, ast.AugAssign)):
             self.assertNotIsInstance(node.op, (ast.Div, ast.Pow, ast.MatMult), (name, node.lineno))
+        for name, node in nodes(ast.Compare):
+            if isinstance(node.ops[0], (ast.Is, ast.IsNot)):
+                self.assertIn(ast.unparse(node.comparators[0]), ("None", "True", "False"), (name, node.lineno))
         for name, node in nodes(ast.Constant):
             self.assertIn(type(node.value), (int, str, bool, type(None)), (name, node.lineno))
 

@@ -1,22 +1,39 @@
 """Long lines of calls, made by a fixed seed, beside a model that is written from the document's words alone."""
 
+import copy
 import itertools
 import random
 import unittest
 
-from helper import GREATEST, run
+from helper import GREATEST, NUMBERS, run
 
 
 class Model:
     """The document, call by call, with dicts and no thought of speed."""
 
+    CHANGES = ("person", "water", "raft", "clothe", "minutes", "take", "all")
+
     def answer(self, name, *given):
-        return getattr(self, "hh_" + name)(*given)
+        before = self.taken() if name in self.CHANGES else None
+        answer = getattr(self, "hh_" + name)(*given)
+        if name in self.CHANGES and answer[0] >= 0:
+            self.done = self.done[:self.at] + [(before, self.taken())]
+            self.at += 1
+            self.oldest = max(self.oldest, self.at - 20)
+        return answer
+
+    def taken(self):
+        return copy.deepcopy((self.water, self.minute, self.persons))
+
+    def put(self, taken):
+        self.water, self.minute, self.persons = copy.deepcopy(taken)
 
     def hh_start(self, water, table):
         if water > 4 or not all(1 <= told <= 10000 for told in table):
             return [-22]
         self.water, self.table, self.minute, self.persons = water, list(table), 0, []
+        # Every change since the start; those from oldest up to at can be taken back, those from at on done again.
+        self.done, self.at, self.oldest = [], 0, 0
         return [0]
 
     def cell(self, person):
@@ -172,6 +189,72 @@ class Model:
             t += 1
         return [t]
 
+    def hh_first(self):
+        plan = self.by_left(self.most(0))
+        return [plan[0], self.minute + self.persons[plan[0]]["takes"]] if plan else [-6]
+
+    def hh_without(self, p):
+        if self.absent(p):
+            return [-2]
+        if self.idle(p):
+            return [-16]
+        supposed = copy.deepcopy(self)
+        supposed.persons[p]["fate"] = "up"
+        return [len(supposed.most(0))]
+
+    def hh_among(self, p):
+        if self.absent(p):
+            return [-2]
+        if self.idle(p):
+            return [-16]
+        sets = itertools.combinations(self.waiting(), len(self.most(0)))
+        return [int(any(p in numbers and self.can(numbers, 0) for numbers in sets))]
+
+    def hh_saves(self, p, c):
+        supposed = copy.deepcopy(self)
+        left = supposed.hh_clothe(p, c)
+        return left if left[0] < 0 else [len(supposed.most(0))] + left
+
+    def hh_next(self):
+        order = self.by_left(self.waiting())
+        return [order[0], self.persons[order[0]]["left"]] if order else [-6]
+
+    def hh_look(self, p):
+        if self.absent(p):
+            return [-2]
+        person = self.persons[p]
+        left = 0 if person["fate"] == "lost" else person["left"]
+        return [("waits", "up", "lost").index(person["fate"]), person["clothes"], person["raft"], left, person["takes"]]
+
+    def those(self):
+        return [[p for p, person in enumerate(self.persons) if person["fate"] == fate] for fate in ("waits", "up", "lost")]
+
+    def hh_who(self):
+        return [len(self.waiting())] + [sum(2 ** p for p in numbers) for numbers in self.those()]
+
+    def hh_row(self, place):
+        return [0] + [self.table[place * 4 + clothes] for clothes in range(4)] if place <= 5 else [-2]
+
+    def hh_sums(self):
+        return [len(self.persons)] + [len(numbers) for numbers in self.those()]
+
+    def hh_back(self):
+        if self.at == self.oldest:
+            return [-2]
+        self.at -= 1
+        self.put(self.done[self.at][0])
+        return [self.at - self.oldest]
+
+    def hh_again(self):
+        if self.at == len(self.done):
+            return [-2]
+        self.put(self.done[self.at][1])
+        self.at += 1
+        return [len(self.done) - self.at]
+
+    def hh_state(self):
+        return [self.minute, self.water, self.at - self.oldest, len(self.done) - self.at]
+
 
 class BesideTheModel(unittest.TestCase):
     def number(self, chance, ordinary, edges):
@@ -186,8 +269,8 @@ class BesideTheModel(unittest.TestCase):
     def call(self, chance, greatest):
         p = self.number(chance, chance.randint(0, 8), (9, GREATEST))
         t = self.number(chance, chance.randint(0, greatest), (0, 100000, 100001, GREATEST))
-        name = chance.choice(("person", "person", "person", "water", "raft", "clothe", "minutes", "take", "all",
-                              "left", "most", "plan", "can", "spare"))
+        others = [name for name in NUMBERS if name != "start"]
+        name = chance.choice(others + ["person"] * 6 + ["back", "again"] * 2)
         if name == "person":
             return (name, self.number(chance, chance.randint(0, 3), (4, GREATEST)),
                     self.number(chance, chance.randint(0, 1), (2, GREATEST)),
@@ -196,38 +279,59 @@ class BesideTheModel(unittest.TestCase):
             return (name, self.number(chance, chance.randint(0, 4), (5, GREATEST)))
         if name == "raft":
             return (name, p, self.number(chance, chance.randint(0, 1), (2, GREATEST)))
-        if name == "clothe":
+        if name in ("clothe", "saves"):
             return (name, p, self.number(chance, chance.randint(0, 3), (4, GREATEST)))
         if name == "minutes":
             return (name, self.number(chance, chance.randint(1, 6), (0, 1, 1440, 1441, GREATEST)))
-        if name in ("take", "left"):
+        if name in ("take", "left", "without", "among", "look"):
             return (name, p)
         if name in ("most", "plan"):
             return (name, t)
+        if name == "row":
+            return (name, self.number(chance, chance.randint(0, 5), (6, GREATEST)))
         if name == "can":
             return (name, self.number(chance, chance.randrange(512) & chance.randrange(512), (512, GREATEST)), t)
         return (name,)
+
+    def line(self, chance, length, restarts):
+        greatest = chance.choice((3, 12, 40, 80))
+        calls = [("start", chance.randint(0, 4), [chance.randint(1, greatest) for unused in range(24)])]
+        while len(calls) < length:
+            restart = chance.random() < restarts
+            calls.append(self.start(chance, greatest) if restart else self.call(chance, greatest))
+        return calls
+
+    def check(self, calls, seen):
+        model = Model()
+        expected = [model.answer(*call) for call in calls]
+        for call, told, wanted in zip(calls, run(*calls), expected):
+            self.assertEqual(told, wanted, call)
+            seen[call[0], min(wanted[0], 0)] = True
+
+    def check_seen(self, seen):
+        for name, refusals in {"start": (-22,), "person": (-22, -28), "water": (-22, -17), "minutes": (-22,),
+                               "raft": (-2, -22, -16, -17), "clothe": (-2, -22, -16, -17), "take": (-2, -16),
+                               "all": (-6,), "left": (-2, -16), "most": (-22,), "plan": (-22,), "can": (-22, -16),
+                               "spare": (-6,), "first": (-6,), "without": (-2, -16), "among": (-2, -16),
+                               "saves": (-2, -22, -16, -17), "next": (-6,), "look": (-2,), "who": (), "row": (-2,),
+                               "sums": (), "back": (-2,), "again": (-2,), "state": ()}.items():
+            for number in (0,) + refusals:
+                self.assertIn((name, number), seen)
 
     def test_long_lines(self):
         chance = random.Random(58)
         seen = {}
         for unused in range(120):
-            greatest = chance.choice((3, 12, 40, 80))
-            calls = [("start", chance.randint(0, 4), [chance.randint(1, greatest) for unused in range(24)])]
-            for unused in range(120):
-                restart = chance.random() < 0.03
-                calls.append(self.start(chance, greatest) if restart else self.call(chance, greatest))
-            model = Model()
-            expected = [model.answer(*call) for call in calls]
-            for call, told, wanted in zip(calls, run(*calls), expected):
-                self.assertEqual(told, wanted, call)
-                seen[call[0], min(wanted[0], 0)] = True
-        for name, refusals in {"start": (-22,), "person": (-22, -28), "water": (-22, -17), "minutes": (-22,),
-                               "raft": (-2, -22, -16, -17), "clothe": (-2, -22, -16, -17), "take": (-2, -16),
-                               "all": (-6,), "left": (-2, -16), "most": (-22,), "plan": (-22,), "can": (-22, -16),
-                               "spare": (-6,)}.items():
-            for number in (0,) + refusals:
-                self.assertIn((name, number), seen)
+            self.check(self.line(chance, 120, 0.03), seen)
+        self.check_seen(seen)
+
+    def test_lines_of_a_thousand(self):
+        chance = random.Random(59)
+        seen = {}
+        for restarts in (0, 0.002, 0.01, 0.02):
+            for unused in range(5):
+                self.check(self.line(chance, 1000, restarts), seen)
+        self.check_seen(seen)
 
 
 if __name__ == "__main__":
